@@ -1,0 +1,77 @@
+// Package mend: words that can be mended: see DOC.md.
+package mend
+
+import "mend/field"
+
+// Errno is what a call answers: OK or the reason for a refusal.
+type Errno int
+
+const (
+	OK        Errno = 0
+	ErrParams Errno = 1 // a parameter that may not be
+	ErrLength Errno = 2 // too many symbols, or too few
+	ErrSymbol Errno = 3 // no symbol
+	ErrPlace  Errno = 4 // a place that may not be
+	ErrLost   Errno = 5 // no word is near enough
+)
+
+// Params are a code's.
+type Params struct {
+	M, Modulus, First, Delta, Short, Cut int
+	Binary                               bool
+}
+
+// Times is the product of two elements (P3).
+func Times(m int, modulus int, a int, b int) (int, Errno) {
+	product, err := times(m, modulus, a, b)
+	return product, errnoOf(err)
+}
+
+func times(m int, modulus int, a int, b int) (int, error) {
+	f, err := field.New(m, modulus)
+	if err != nil {
+		return 0, fieldFault(err)
+	}
+	if err := f.CheckElement(a); err != nil {
+		return 0, fieldFault(err)
+	}
+	if err := f.CheckElement(b); err != nil {
+		return 0, fieldFault(err)
+	}
+	return f.Times(a, b), nil
+}
+
+// Inverse is the element whose product with a is 1 (P3).
+func Inverse(m int, modulus int, a int) (int, Errno) {
+	inverted, err := inverse(m, modulus, a)
+	return inverted, errnoOf(err)
+}
+
+func inverse(m int, modulus int, a int) (int, error) {
+	f, err := field.New(m, modulus)
+	if err != nil {
+		return 0, fieldFault(err)
+	}
+	if err := f.CheckUnit(a); err != nil {
+		return 0, fieldFault(err)
+	}
+	return f.Inverse(a), nil
+}
+
+// Codec encodes and decodes words of a code. Make it by New.
+type Codec struct{}
+
+// New makes a codec (P4).
+func New(p Params) (*Codec, Errno, int) { return nil, 0, 0 }
+
+// Size tells how many symbols a word has, and a message (P5).
+func (c *Codec) Size() (int, int) { return 0, 0 }
+
+// Encode makes the word of a message (P6).
+func (c *Codec) Encode(message []int) ([]int, Errno, int) { return nil, 0, 0 }
+
+// Check tells whether a list is a word (P7).
+func (c *Codec) Check(word []int) (bool, Errno, int) { return false, 0, 0 }
+
+// Decode finds the message and the word that is near enough (P8).
+func (c *Codec) Decode(word []int, lost []int) ([]int, []int, Errno, int) { return nil, nil, 0, 0 }
