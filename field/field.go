@@ -8,6 +8,7 @@ var (
 	ErrDegree  = errors.New("field: m is not from 3 to 8")
 	ErrModulus = errors.New("field: the modulus has another highest bit or is not primitive")
 	ErrElement = errors.New("field: no element")
+	ErrBit     = errors.New("field: neither 0 nor 1")
 	ErrZero    = errors.New("field: 0 has no inverse")
 )
 
@@ -78,6 +79,25 @@ func (f *Field) CheckUnit(a int) error {
 	}
 	return f.CheckElement(a)
 }
+
+// CheckBit answers ErrBit, if a is neither 0 nor 1: these two are a field of
+// their own within each field.
+func (f *Field) CheckBit(a int) error {
+	if a != 0 && a != 1 {
+		return ErrBit
+	}
+	return nil
+}
+
+// Units is n: how many elements there are but 0, and how many powers of x.
+func (f *Field) Units() int { return f.n }
+
+// Power is x^i, for an i that is not below 0.
+func (f *Field) Power(i int) int { return f.powers[i%f.n] }
+
+// Plus is the sum of two elements, and as each one is its own negative, what is
+// left of one less the other too. It does not check them: CheckElement does.
+func (f *Field) Plus(a int, b int) int { return a ^ b }
 
 // Times is the product of two elements. It does not check them, so that the
 // many products of one call need not pay for that: CheckElement does.

@@ -98,6 +98,48 @@ func TestCheckUnit(t *testing.T) {
 	})
 }
 
+func TestCheckBit(t *testing.T) {
+	everyField(t, func(f *Field, m int, modulus int) {
+		for _, a := range []int{0, 1} {
+			if err := f.CheckBit(a); err != nil {
+				t.Errorf("m %d, modulus %d: CheckBit(%d): %v", m, modulus, a, err)
+			}
+		}
+		for _, a := range []int{math.MinInt, -1, 2, 3, 1<<m - 1, 1 << m, math.MaxInt} {
+			if err := f.CheckBit(a); !errors.Is(err, ErrBit) {
+				t.Errorf("m %d, modulus %d: CheckBit(%d): %v, want ErrBit", m, modulus, a, err)
+			}
+		}
+	})
+}
+
+func TestPlus(t *testing.T) {
+	everyField(t, func(f *Field, m int, modulus int) {
+		for a := range 1 << m {
+			for b := range 1 << m {
+				if got := f.Plus(a, b); got != a^b {
+					t.Errorf("m %d, modulus %d: Plus(%d, %d) = %d, want %d", m, modulus, a, b, got, a^b)
+				}
+			}
+		}
+	})
+}
+
+func TestPower(t *testing.T) {
+	everyField(t, func(f *Field, m int, modulus int) {
+		if got, want := f.Units(), 1<<m-1; got != want {
+			t.Errorf("m %d, modulus %d: Units() = %d, want %d", m, modulus, got, want)
+		}
+		want := 1
+		for i := range 3 << m {
+			if got := f.Power(i); got != want {
+				t.Errorf("m %d, modulus %d: Power(%d) = %d, want %d", m, modulus, i, got, want)
+			}
+			want = f.Times(want, 2)
+		}
+	})
+}
+
 // The laws below leave but one product: 1 and x as factors are told outright,
 // and every other factor is reached from them by sums and by one x more.
 func TestTimesKeepsTheLaws(t *testing.T) {

@@ -7,33 +7,57 @@ import (
 	"mend/field"
 )
 
-// fault wraps what is wrong with the number that a call answers of it, so that
+// What a codec refuses beside what its field does.
+var (
+	errRange     = errors.New("mend: outside its range")
+	errNoMessage = errors.New("mend: no symbol is left for a message")
+	errSize      = errors.New("mend: too many symbols or too few")
+)
+
+// The parameters, by the numbers that New tells of them.
+const (
+	numberM = iota + 1
+	numberModulus
+	numberFirst
+	numberDelta
+	numberShort
+	numberCut
+)
+
+// fault wraps what is wrong with the numbers that a call answers of it, so that
 // the inner functions can hand on errors and only the calls speak in numbers.
 type fault struct {
 	errno Errno
+	place int
 	cause error
 }
 
 func (f *fault) Error() string {
-	return "mend: error " + strconv.Itoa(int(f.errno)) + ": " + f.cause.Error()
+	return "mend: error " + strconv.Itoa(int(f.errno)) + " at " + strconv.Itoa(f.place) + ": " + f.cause.Error()
 }
 
 func (f *fault) Unwrap() error { return f.cause }
 
-// fieldFault wraps what a field refuses. A field knows nothing of a call's
-// numbers: whether a parameter or a symbol was refused is settled here.
+// fieldFault wraps the refusal to make a field. A field knows nothing of a
+// code's parameters: which one was refused is settled here.
 func fieldFault(err error) error {
-	if errors.Is(err, field.ErrElement) || errors.Is(err, field.ErrZero) {
-		return &fault{ErrSymbol, err}
+	if errors.Is(err, field.ErrDegree) {
+		return paramFault(err, numberM)
 	}
-	return &fault{ErrParams, err}
+	return paramFault(err, numberModulus)
 }
 
-// errnoOf is the number that a call answers of err.
-func errnoOf(err error) Errno {
+func paramFault(cause error, number int) error { return &fault{ErrParams, number, cause} }
+
+func lengthFault(cause error) error { return &fault{ErrLength, 0, cause} }
+
+func symbolFault(cause error, place int) error { return &fault{ErrSymbol, place, cause} }
+
+// told is what a call answers of err: its number and its place.
+func told(err error) (Errno, int) {
 	var f *fault
 	if errors.As(err, &f) {
-		return f.errno
+		return f.errno, f.place
 	}
-	return OK
+	return OK, 0
 }
