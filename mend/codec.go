@@ -32,12 +32,14 @@ func newCodec(p Params) (*Codec, error) {
 		return nil, err
 	}
 	ring := poly.Over(f.Plus, f.Times)
+	checkSymbol := symbolCheck(f, p.Binary)
 	return &Codec{
 		ring:        ring,
-		checkSymbol: symbolCheck(f, p.Binary),
+		checkSymbol: checkSymbol,
 		generator:   ring.FromRoots(rootsAt(powers, f.Power)),
 		wordSize:    n - p.Short - p.Cut,
 		messageSize: k - p.Short,
+		decoder:     newDecoder(f, ring, checkSymbol, p),
 	}, nil
 }
 
@@ -111,6 +113,21 @@ func (c *Codec) check(word []int) (bool, error) {
 	return slices.Equal(word, c.wordOf(word[:messageSize])), nil
 }
 
+func (c *Codec) decode(word []int, lost []int) ([]int, []int, error) {
+	size, messageSize := c.Size()
+	if err := c.checkList(word, size); err != nil {
+		return nil, nil, err
+	}
+	if err := checkPlaces(lost, size); err != nil {
+		return nil, nil, err
+	}
+	mended, err := c.decoder.mend(word, lost)
+	if err != nil {
+		return nil, nil, lostFault(err)
+	}
+	return slices.Clone(mended[:messageSize]), mended, nil
+}
+
 func (c *Codec) checkList(list []int, size int) error {
 	if !c.isMade() || len(list) != size {
 		return lengthFault(errSize)
@@ -118,6 +135,18 @@ func (c *Codec) checkList(list []int, size int) error {
 	for place, symbol := range list {
 		if err := c.checkSymbol(symbol); err != nil {
 			return symbolFault(err, place)
+		}
+	}
+	return nil
+}
+
+func checkPlaces(lost []int, size int) error {
+	for i, place := range lost {
+		if place < 0 || place >= size {
+			return placeFault(errNoPlace, i)
+		}
+		if i > 0 && place <= lost[i-1] {
+			return placeFault(errOrder, i)
 		}
 	}
 	return nil

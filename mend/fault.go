@@ -12,6 +12,11 @@ var (
 	errRange     = errors.New("mend: outside its range")
 	errNoMessage = errors.New("mend: no symbol is left for a message")
 	errSize      = errors.New("mend: too many symbols or too few")
+	errNoPlace   = errors.New("mend: no place of a word")
+	errOrder     = errors.New("mend: not above the place ahead of it")
+	errLosses    = errors.New("mend: too many places are lost")
+	errTurns     = errors.New("mend: too many places are turned")
+	errNotZero   = errors.New("mend: other than 0 where the code leaves out zeros")
 )
 
 // The parameters, by the numbers that New tells of them.
@@ -52,6 +57,10 @@ func paramFault(cause error, number int) error { return &fault{ErrParams, number
 func lengthFault(cause error) error { return &fault{ErrLength, 0, cause} }
 
 func symbolFault(cause error, place int) error { return &fault{ErrSymbol, place, cause} }
+
+func placeFault(cause error, place int) error { return &fault{ErrPlace, place, cause} }
+
+func lostFault(cause error) error { return &fault{ErrLost, 0, cause} }
 
 // told is what a call answers of err: its number and its place.
 func told(err error) (Errno, int) {

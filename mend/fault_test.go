@@ -28,6 +28,8 @@ func TestFaults(t *testing.T) {
 		{lengthFault(errSize), errSize, ErrLength, 0},
 		{symbolFault(field.ErrElement, 7), field.ErrElement, ErrSymbol, 7},
 		{symbolFault(field.ErrBit, 0), field.ErrBit, ErrSymbol, 0},
+		{placeFault(errOrder, 4), errOrder, ErrPlace, 4},
+		{lostFault(errTurns), errTurns, ErrLost, 0},
 	} {
 		checkTold(t, c.err, c.errno, c.place)
 		if !errors.Is(c.err, c.cause) {
@@ -79,5 +81,27 @@ func TestCausesOfRefusedLists(t *testing.T) {
 	}
 	if _, err := bits.encode([]int{1, 2, 0, 1}); !errors.Is(err, field.ErrBit) {
 		t.Errorf("%v, want %v", err, field.ErrBit)
+	}
+}
+
+func TestCausesOfRefusedWords(t *testing.T) {
+	for _, c := range []struct {
+		p          Params
+		word, lost []int
+		cause      error
+	}{
+		{Params{M: 3, Modulus: 11, First: 1, Delta: 3}, []int{1}, nil, errSize},
+		{Params{M: 3, Modulus: 11, First: 1, Delta: 3}, []int{1, 2, 3, 4, 5, 6, 8}, nil, field.ErrElement},
+		{Params{M: 3, Modulus: 11, First: 1, Delta: 3}, []int{1, 2, 3, 4, 5, 6, 7}, []int{7}, errNoPlace},
+		{Params{M: 3, Modulus: 11, First: 1, Delta: 3}, []int{1, 2, 3, 4, 5, 6, 7}, []int{1, 1}, errOrder},
+		{Params{M: 3, Modulus: 11, First: 1, Delta: 3}, []int{1, 2, 3, 4, 5, 6, 7}, []int{1, 2, 3}, errLosses},
+		{Params{M: 3, Modulus: 11, First: 1, Delta: 7}, []int{5, 5, 5, 1, 2, 3, 4}, nil, errTurns},
+		{Params{M: 3, Modulus: 11, First: 0, Delta: 3, Short: 4}, []int{0, 5, 4}, nil, errNotZero},
+		{Params{M: 3, Modulus: 11, First: 1, Delta: 3, Binary: true}, []int{0, 0, 0, 0, 0, 0, 1}, []int{0, 1}, field.ErrBit},
+	} {
+		codec, _ := newCodec(c.p)
+		if _, _, err := codec.decode(c.word, c.lost); !errors.Is(err, c.cause) {
+			t.Errorf("%+v: decode(%v, %v): %v, want %v", c.p, c.word, c.lost, err, c.cause)
+		}
 	}
 }

@@ -70,6 +70,7 @@ type Codec struct {
 	generator   []int // the full words are its multiples
 	wordSize    int
 	messageSize int
+	decoder     *decoder
 }
 
 // New makes a codec (P4).
@@ -102,4 +103,8 @@ func (c *Codec) Check(word []int) (bool, Errno, int) {
 }
 
 // Decode finds the message and the word that is near enough (P8).
-func (c *Codec) Decode(word []int, lost []int) ([]int, []int, Errno, int) { return nil, nil, 0, 0 }
+func (c *Codec) Decode(word []int, lost []int) ([]int, []int, Errno, int) {
+	message, mended, err := c.decode(word, lost)
+	errno, place := told(err)
+	return message, mended, errno, place
+}

@@ -212,6 +212,8 @@ func TestP1NoCodec(t *testing.T) {
 		for _, list := range [][]int{nil, {}, {0}, {1, 2, 3}} {
 			checkEncode(t, codec, list, nil, errLength, 0)
 			checkCheck(t, codec, list, false, errLength, 0)
+			checkDecode(t, codec, list, nil, nil, nil, errLength, 0)
+			checkDecode(t, codec, list, []int{-1}, nil, nil, errLength, 0)
 		}
 	}
 }

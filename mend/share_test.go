@@ -34,8 +34,16 @@ func answers(codec *mend.Codec, p mend.Params) []int {
 			is, _, _ = codec.Check(word)
 			told = append(told, number(is))
 		}
+		for _, lost := range [][]int{nil, {0}, {0, 1, 2}, {1, 0}} {
+			told = append(told, decodeAnswers(codec, word, lost)...)
+		}
 	}
 	return told
+}
+
+func decodeAnswers(codec *mend.Codec, word []int, lost []int) []int {
+	message, mended, errno, place := codec.Decode(word, lost)
+	return slices.Concat(message, mended, []int{len(message), len(mended), int(errno), place})
 }
 
 func number(is bool) int {
@@ -174,5 +182,150 @@ func TestP2AnswersAreNewMemory(t *testing.T) {
 		scribble(second)
 		checkEncode(t, codec, message, want, ok, 0)
 		checkCheck(t, codec, want, true, ok, 0)
+	}
+}
+
+// spoiltCase is a word that has come, of which something is lost and turned.
+type spoiltCase struct {
+	sent, word, lost []int
+	want             []int // all that Decode answers
+}
+
+// spoiltCases are some of a code, from such that can be mended to such that can
+// not; the answers are those of codecs that were asked nothing else.
+func spoiltCases(t *testing.T, p mend.Params) []spoiltCase {
+	t.Helper()
+	d := &dice{state: 5}
+	var cases []spoiltCase
+	for count := range 12 {
+		codec := newCodec(t, p)
+		size, _ := codec.Size()
+		places := d.shuffled(size)
+		turns := count % 4 % size
+		losses := min(count/2, size-turns)
+		sent := d.sentWord(t, codec, p)
+		lost := slices.Sorted(slices.Values(places[turns : turns+losses]))
+		word := d.spoilt(p, sent, places[:turns], lost)
+		want := decodeAnswers(codec, slices.Clone(word), slices.Clone(lost))
+		cases = append(cases, spoiltCase{sent, word, lost, want})
+	}
+	return cases
+}
+
+func (c spoiltCase) check(t *testing.T, codec *mend.Codec) {
+	t.Helper()
+	if got := decodeAnswers(codec, c.word, c.lost); !slices.Equal(got, c.want) {
+		t.Errorf("Decode(%v, %v) answers %v, want %v", c.word, c.lost, got, c.want)
+	}
+}
+
+// P2: one codec asked again and again, after each case each other one, and with
+// other calls in between.
+func TestP2DecodeAgain(t *testing.T) {
+	for _, p := range slices.Concat(neighbours, listCodes) {
+		codec, cases := newCodec(t, p), spoiltCases(t, p)
+		size, messageSize := codec.Size()
+		for _, one := range cases {
+			for _, other := range cases {
+				one.check(t, codec)
+				other.check(t, codec)
+			}
+			checkEncode(t, codec, one.sent[:messageSize], one.sent, ok, 0)
+			one.check(t, codec)
+			checkCheck(t, codec, one.sent, true, ok, 0)
+			one.check(t, codec)
+			checkDecode(t, codec, nil, one.lost, nil, nil, errLength, 0)
+			one.check(t, codec)
+			checkDecode(t, codec, slices.Repeat([]int{-1}, size), one.lost, nil, nil, errSymbol, 0)
+			one.check(t, codec)
+			checkDecode(t, codec, one.word, []int{0, 0}, nil, nil, errPlace, 1)
+			one.check(t, codec)
+			checkMended(t, codec, one.sent, nil, one.sent)
+			one.check(t, codec)
+		}
+	}
+}
+
+// P2: two codecs in turn, of codes that differ in one parameter, or in none.
+func TestP2DecodeSideBySide(t *testing.T) {
+	p := neighbours[0]
+	one, cases := newCodec(t, p), spoiltCases(t, p)
+	for _, q := range neighbours {
+		other, others := newCodec(t, q), spoiltCases(t, q)
+		for i := range cases {
+			cases[i].check(t, one)
+			others[i].check(t, other)
+			cases[len(cases)-1-i].check(t, one)
+		}
+	}
+}
+
+// P2: one codec asked at the same time from several sides.
+func TestP2DecodeAtTheSameTime(t *testing.T) {
+	for _, p := range listCodes {
+		codec, cases := newCodec(t, p), spoiltCases(t, p)
+		for range 4 {
+			t.Run("", func(t *testing.T) {
+				t.Parallel()
+				for range 30 {
+					for _, c := range cases {
+						c.check(t, codec)
+					}
+				}
+			})
+		}
+	}
+}
+
+// P2: Decode leaves both lists as they were, with the room behind them.
+func TestP2DecodeChangesNoList(t *testing.T) {
+	for _, p := range slices.Concat(neighbours, listCodes) {
+		codec := newCodec(t, p)
+		for _, c := range spoiltCases(t, p) {
+			for _, lost := range [][]int{c.lost, nil, {1, 0}, {-1}} {
+				word, wholeWord := spare(c.word)
+				places, wholePlaces := spare(lost)
+				codec.Decode(word, places)
+				_, wantWord := spare(c.word)
+				_, wantPlaces := spare(lost)
+				if !slices.Equal(wholeWord, wantWord) || !slices.Equal(wholePlaces, wantPlaces) {
+					t.Errorf("%+v: Decode(%v, %v) left %v and %v", p, c.word, lost, wholeWord, wholePlaces)
+				}
+			}
+		}
+	}
+}
+
+// P2: what Decode answers is the caller's: neither of the two lists shares memory
+// with the other, with a list that was handed in, with an earlier answer, or with
+// what the codec works in.
+func TestP2DecodeAnswersNewMemory(t *testing.T) {
+	for _, p := range slices.Concat(neighbours, listCodes) {
+		codec := newCodec(t, p)
+		d := &dice{state: 7}
+		sent := d.sentWord(t, codec, p)
+		_, messageSize := codec.Size()
+		handed, lost := slices.Clone(sent), []int{0}
+		if p.Delta-p.Cut < 2 {
+			t.Fatalf("%+v bears no loss", p)
+		}
+		message, mended, _, _ := codec.Decode(handed, lost)
+		again, mendedAgain, _, _ := codec.Decode(handed, lost)
+		scribble(handed)
+		scribble(lost)
+		scribble(message)
+		if !slices.Equal(mended, sent) {
+			t.Errorf("%+v: the word is %v once the message is written over, want %v", p, mended, sent)
+		}
+		scribble(mended)
+		if !slices.Equal(again, sent[:messageSize]) || !slices.Equal(mendedAgain, sent) {
+			t.Errorf("%+v: the second answer is %v, %v once the first is written over", p, again, mendedAgain)
+		}
+		scribble(mendedAgain)
+		if !slices.Equal(again, sent[:messageSize]) {
+			t.Errorf("%+v: the message is %v once the word is written over", p, again)
+		}
+		checkMended(t, codec, sent, []int{0}, sent)
+		checkMended(t, codec, sent, nil, sent)
 	}
 }

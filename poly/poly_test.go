@@ -64,13 +64,94 @@ func TestRemainder(t *testing.T) {
 	}
 }
 
-// value is the polynomial's at one element.
-func value(f *field.Field, polynomial []int, at int) int {
-	sum := 0
-	for _, coefficient := range polynomial {
-		sum = f.Plus(f.Times(sum, at), coefficient)
+func TestTimesRoot(t *testing.T) {
+	for _, c := range []struct {
+		list []int
+		root int
+		want []int
+	}{
+		{[]int{1, 0}, 3, []int{1, 3}},
+		{[]int{1, 0, 0, 0}, 2, []int{1, 2, 0, 0}},
+		{[]int{1, 2, 0, 0}, 1, []int{1, 3, 2, 0}},
+		{[]int{2, 3, 0}, 0, []int{2, 3, 0}},
+	} {
+		got := slices.Clone(c.list)
+		if Over(xor, timesInFour).TimesRoot(got, c.root); !slices.Equal(got, c.want) {
+			t.Errorf("TimesRoot(%v, %d) makes %v, want %v", c.list, c.root, got, c.want)
+		}
 	}
-	return sum
+}
+
+func TestAddMultiple(t *testing.T) {
+	sum, terms := []int{1, 2, 3, 1}, []int{3, 0, 2}
+	if Over(xor, timesInFour).AddMultiple(sum, 2, terms); !slices.Equal(sum, []int{0, 2, 0, 1}) {
+		t.Errorf("the sum is %v", sum)
+	}
+	if !slices.Equal(terms, []int{3, 0, 2}) {
+		t.Errorf("the terms are %v now", terms)
+	}
+}
+
+func TestProductAt(t *testing.T) {
+	ring := Over(xor, timesInFour)
+	a, b := []int{1, 2, 3}, []int{2, 1}
+	// (X^2 + 2X + 3)(2X + 1) = 2X^3 + (1 + 3)X^2 + (2 + 1)X + 3
+	for place, want := range []int{2, 2, 3, 3, 0, 0} {
+		if got := ring.ProductAt(a, b, place); got != want {
+			t.Errorf("at %d: %d, want %d", place, got, want)
+		}
+		if got := ring.ProductAt(b, a, place); got != want {
+			t.Errorf("at %d, the other way round: %d, want %d", place, got, want)
+		}
+	}
+	if got := ring.ProductAt(nil, b, 0); got != 0 {
+		t.Errorf("of no coefficients: %d", got)
+	}
+}
+
+func TestValue(t *testing.T) {
+	ring := Over(xor, timesInFour)
+	for _, c := range []struct {
+		polynomial []int
+		want       [4]int // at each element
+	}{
+		{nil, [4]int{0, 0, 0, 0}},
+		{[]int{3}, [4]int{3, 3, 3, 3}},
+		{[]int{1, 2}, [4]int{2, 3, 0, 1}},
+		{[]int{1, 0, 0, 1}, [4]int{1, 0, 0, 0}},
+		{[]int{2, 0, 1}, [4]int{1, 3, 0, 2}},
+	} {
+		for at, want := range c.want {
+			if got := ring.Value(c.polynomial, at); got != want {
+				t.Errorf("Value(%v, %d) = %d, want %d", c.polynomial, at, got, want)
+			}
+		}
+	}
+}
+
+// derivative is the polynomial's, coefficient by coefficient: an even number of
+// the same ones is 0, an odd one is one of them.
+func derivative(polynomial []int) []int {
+	var of []int
+	for i, coefficient := range polynomial[:len(polynomial)-1] {
+		of = append(of, coefficient*((len(polynomial)-1-i)%2))
+	}
+	return of
+}
+
+func TestSlope(t *testing.T) {
+	ring := Over(xor, timesInFour)
+	for _, polynomial := range [][]int{{3}, {2, 1}, {1, 0, 0, 1}, {3, 1, 2, 2, 1}, {1, 2, 3, 1, 2, 3}} {
+		for at := range 4 {
+			want := ring.Value(derivative(polynomial), at)
+			if got := ring.Slope(polynomial, at); got != want {
+				t.Errorf("Slope(%v, %d) = %d, want %d", polynomial, at, got, want)
+			}
+		}
+	}
+	if got := ring.Slope(nil, 3); got != 0 {
+		t.Errorf("of no coefficients: %d", got)
+	}
 }
 
 // A remainder has the dividend's values at the divisor's roots, and is small
@@ -87,8 +168,8 @@ func TestRemainderHasTheSameValuesAtTheRoots(t *testing.T) {
 		t.Errorf("FromRoots(%v) = %v", roots, divisor)
 	}
 	for at := range 32 {
-		if (value(f, divisor, at) == 0) != slices.Contains(roots, at) {
-			t.Errorf("FromRoots(%v) has the value %d at %d", roots, value(f, divisor, at), at)
+		if (ring.Value(divisor, at) == 0) != slices.Contains(roots, at) {
+			t.Errorf("FromRoots(%v) has the value %d at %d", roots, ring.Value(divisor, at), at)
 		}
 	}
 	dividend := make([]int, 20)
@@ -100,8 +181,8 @@ func TestRemainderHasTheSameValuesAtTheRoots(t *testing.T) {
 		t.Errorf("%d coefficients are left, want %d", len(rest), len(roots))
 	}
 	for _, root := range roots {
-		if value(f, rest, root) != value(f, dividend, root) {
-			t.Errorf("at %d: %d, want %d", root, value(f, rest, root), value(f, dividend, root))
+		if ring.Value(rest, root) != ring.Value(dividend, root) {
+			t.Errorf("at %d: %d, want %d", root, ring.Value(rest, root), ring.Value(dividend, root))
 		}
 	}
 }
